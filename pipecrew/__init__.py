@@ -1,0 +1,1 @@
+"""Pipe cleaning with one crew; pipecrew.desk.answers is the way in."""
