@@ -25,6 +25,15 @@ def state_after(pipes, state, choice):
     return tuple(after)
 
 
+def follow(pipes, state, choices):
+    """Return the total output of a day for each choice, and the state behind these days."""
+    total = 0
+    for choice in choices:
+        total += output_of_day(pipes, state, choice)
+        state = state_after(pipes, state, choice)
+    return total, state
+
+
 def moves_from(pipes, state):
     """Return the output and the state after of each choice, in the order of the choices."""
     moves = []
@@ -48,3 +57,19 @@ def moves_reached(pipes, start):
 def oldest_state(pipes):
     """Return the state in which every pipe has its greatest age."""
     return tuple([len(outputs) - 1 for outputs in pipes])
+
+
+def youngest_state(pipes):
+    """Return the state in which every pipe has age 0."""
+    return (0,) * len(pipes)
+
+
+def all_states(pipes):
+    """Return the list of all states, in their order; those too that no days lead to."""
+    states = [()]
+    for outputs in pipes:
+        longer = []
+        for state in states:
+            longer.extend([state + (age,) for age in range(len(outputs))])
+        states = longer
+    return states

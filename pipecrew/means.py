@@ -1,6 +1,6 @@
 """Means per day in the long run, as fractions: pairs of a numerator and a positive denominator."""
 
-from pipecrew.days import moves_reached, oldest_state
+from pipecrew.days import follow, moves_reached, oldest_state
 from pipecrew.plans import greatest_totals
 
 
@@ -48,3 +48,19 @@ def greatest_mean(pipes):
         if is_less(best, gain):
             best = gain
     return lowest_terms(best)
+
+
+def mean_of_cycle(pipes, state, choices):
+    """Return the mean of the choices, begun in the state; None if they form no cycle."""
+    total, after = follow(pipes, state, choices)
+    if after != state:
+        return None
+    return lowest_terms((total, len(choices)))
+
+
+def mean_of_interval(outputs, interval):
+    """Return the mean of a pipe alone that is cleaned every so many days."""
+    last = len(outputs) - 1
+    # The day of the cleaning has no output.
+    total = sum([outputs[min(age, last)] for age in range(interval - 1)])
+    return lowest_terms((total, interval))

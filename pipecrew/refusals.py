@@ -41,3 +41,10 @@ class NoPipes(Refusal):
 
     def __init__(self):
         Refusal.__init__(self, -6)
+
+
+class NoCycle(Refusal):
+    """The choices don't form a cycle."""
+
+    def __init__(self):
+        Refusal.__init__(self, -33)

@@ -1,58 +1,12 @@
 """best_total, best_choice and best_mean, against a plain search over all choices."""
 
-import itertools
 import unittest
 from fractions import Fraction
 
-from tests.calling import all_choices, all_states, ask, built, day, followed, last
-
-GREATEST = 4294967295
-
-SMALL = [
-    [],
-    [(0,)],
-    [(100,)],
-    [(10, 4)],
-    [(10, 10, 0, 0)],
-    [(100, 99, 1, 0)],
-    [(9, 6, 2), (7, 1)],
-    [(5, 5), (5, 5)],
-    [(10, 0), (10, 0)],
-    [(8, 7, 3, 0), (9,)],
-    [(4, 4, 0), (6, 3, 1)],
-    [(9, 1), (8, 2), (7, 3)],
-]
-
-LARGE = [
-    [(100, 77, 31, 3), (90, 61, 30, 2), (99, 50, 50, 1)],
-    [(100, 0, 0, 0), (100, 100, 0, 0), (100, 100, 100, 0)],
-    [(100, 100, 100, 100)] * 3,
-    [(100, 50, 25, 0)] * 3,
-    [(0, 0, 0, 0)] * 3,
-    [(10, 9, 8, 7), (40, 20, 10, 5), (33, 33, 2)],
-    [(100, 99, 0), (97, 61, 13, 12), (89, 2)],
-    [(1, 0), (1, 0), (1, 0)],
-    [(60,), (50, 10, 10, 0), (55, 54, 0, 0)],
-]
-
-PAIRS = [list(pair) for pair in itertools.product(
-    [(6,), (9, 2), (7, 7, 0), (8, 5, 1), (9, 9, 6, 0), (5, 3, 2, 1)], repeat=2)]
-
-
-def totals_of_all_choices(pipes, state, days, total=0):
-    """Return the total output of every list of so many choices; nothing is left out or kept."""
-    if days == 0:
-        return [total]
-    totals = []
-    for choice in range(len(pipes) + 1):
-        output, after = day(pipes, state, choice)
-        totals.extend(totals_of_all_choices(pipes, after, days - 1, total + output))
-    return totals
-
-
-def searched_total(pipes, state, days):
-    """Return the greatest total output over every list of choices."""
-    return max(totals_of_all_choices(pipes, state, days))
+from tests.calling import (
+    GREATEST, LARGE, PAIRS, SMALL, all_choices, all_states, ask, built, followed, last, means_of_cycles,
+    proving_potentials, searched_total, tight_days, totals_of_all_choices,
+)
 
 
 def searched_choice(pipes, state, days):
@@ -60,58 +14,6 @@ def searched_choice(pipes, state, days):
     totals = totals_of_all_choices(pipes, state, days)
     # The lists stand in the order of their first choices, as many for each.
     return totals.index(max(totals)) // (len(totals) // (len(pipes) + 1))
-
-
-def means_of_cycles(pipes):
-    """Return the means of all cycles that meet no state twice, by a search from each state."""
-    means = []
-
-    def walk(start, path, state, total):
-        for choice in range(len(pipes) + 1):
-            output, after = day(pipes, state, choice)
-            if after == start:
-                means.append(Fraction(total + output, len(path)))
-            elif after not in path:
-                walk(start, path + [after], after, total + output)
-
-    for start in all_states(pipes):
-        walk(start, [start], start, 0)
-    return means
-
-
-def proving_potentials(pipes, mean):
-    """Return potentials, times the mean's denominator, that prove the mean; None if there are none."""
-    states = all_states(pipes)
-    potentials = {state: 0 for state in states}
-    for _ in range(len(states) + 1):
-        changed = False
-        for state in states:
-            for choice in range(len(pipes) + 1):
-                output, after = day(pipes, state, choice)
-                needed = output * mean.denominator - mean.numerator + potentials[after]
-                if needed > potentials[state]:
-                    potentials[state] = needed
-                    changed = True
-        if not changed:
-            return potentials
-    return None
-
-
-def has_tight_cycle(pipes, mean, potentials):
-    """Tell whether days at which the potentials leave nothing over form a cycle: one with this mean."""
-    tight = {state: [] for state in potentials}
-    for state in potentials:
-        for choice in range(len(pipes) + 1):
-            output, after = day(pipes, state, choice)
-            if output * mean.denominator - mean.numerator + potentials[after] == potentials[state]:
-                tight[state].append(after)
-    # What no tight day leaves for a state that is still there lies on no cycle.
-    left = True
-    while left:
-        left = [state for state in tight if not any(after in tight for after in tight[state])]
-        for state in left:
-            del tight[state]
-    return len(tight) > 0
 
 
 def answered_mean(pipes):
@@ -260,7 +162,7 @@ class BestMean(unittest.TestCase):
             potentials = proving_potentials(pipes, mean)
             with self.subTest(pipes=pipes):
                 self.assertIsNotNone(potentials)
-                self.assertTrue(has_tight_cycle(pipes, mean, potentials))
+                self.assertGreater(len(tight_days(pipes, mean, potentials)), 0)
 
     def test_it_stands_in_lowest_terms(self):
         for pipes in SMALL[1:] + PAIRS + LARGE:

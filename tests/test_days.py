@@ -1,12 +1,8 @@
-"""operate, operate_days, output_if, and the past days that an instance stores."""
+"""operate, operate_days and output_if."""
 
 import unittest
 
-from pipecrew import operations
-from pipecrew.crew import Crew
-from tests.calling import all_choices, ask, built, day, followed, last
-
-GREATEST = 4294967295
+from tests.calling import GREATEST, all_choices, ask, built, day, followed, last
 
 GROUPS = [
     [],
@@ -114,39 +110,6 @@ class OutputIf(unittest.TestCase):
             for choice in (len(pipes) + 1, GREATEST):
                 with self.subTest(pipes=pipes, choice=choice):
                     self.assertEqual(last(*built(*pipes), ("output_if", choice)), [-2])
-
-
-class PastDays(unittest.TestCase):
-    # None of the calls so far answers these two, so the crew itself is asked.
-    def setUp(self):
-        self.crew = Crew()
-        operations.create(self.crew)
-        operations.add_pipe(self.crew, [10, 4])
-        operations.add_pipe(self.crew, [7, 3])
-        operations.operate(self.crew, 0)
-        operations.operate_days(self.crew, [1, 0])
-
-    def past(self):
-        return (self.crew.day_count, self.crew.total_output)
-
-    def test_days_and_their_output_are_counted(self):
-        self.assertEqual(self.past(), (3, 17 + 3 + 13))
-
-    def test_looking_ahead_counts_nothing(self):
-        operations.output_if(self.crew, 0)
-        operations.best_total(self.crew, 8)
-        operations.best_choice(self.crew, 8)
-        operations.best_mean(self.crew)
-        self.assertEqual(self.past(), (3, 33))
-
-    def test_adding_and_removing_a_pipe_changes_nothing_past(self):
-        operations.add_pipe(self.crew, [5])
-        operations.remove_pipe(self.crew, 0)
-        self.assertEqual(self.past(), (3, 33))
-
-    def test_create_forgets_them(self):
-        operations.create(self.crew)
-        self.assertEqual(self.past(), (0, 0))
 
 
 if __name__ == "__main__":

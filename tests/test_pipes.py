@@ -2,9 +2,7 @@
 
 import unittest
 
-from tests.calling import ask, built, last
-
-GREATEST = 4294967295
+from tests.calling import GREATEST, ask, built, last
 
 
 class Create(unittest.TestCase):
